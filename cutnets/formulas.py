@@ -5,9 +5,10 @@ and these ahead of those of its second one: so every question is a walk along on
 A node is a tuple of its kind and, for an atom, its name (a tuple of bytes).
 """
 
-# Apart from PLAIN, a kind is the byte that the form writes for it; that of a tensor is 42.
+# Apart from PLAIN, a kind is the byte that the form writes for it.
 PLAIN = 0
 TURNED = 126
+TENSOR = 42
 PAR = 124
 
 DUAL_KINDS = {0: 126, 126: 0, 42: 124, 124: 42}

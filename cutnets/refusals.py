@@ -1,4 +1,4 @@
-"""The refusals of the calls, one error class for each number that is answered."""
+"""The refusals of the calls, each with the number that is answered."""
 
 
 class Refusal(Exception):
@@ -36,6 +36,16 @@ class OutOfBounds(Refusal):
         Refusal.__init__(self, -6)
 
 
+class NotDual(Refusal):
+    def __init__(self):
+        Refusal.__init__(self, -8)
+
+
 class Stuck(Refusal):
+    def __init__(self):
+        Refusal.__init__(self, -9)
+
+
+class NeverEnds(Refusal):
     def __init__(self):
         Refusal.__init__(self, -9)

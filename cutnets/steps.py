@@ -1,4 +1,4 @@
-"""Steps at cuts, and the weights that tell how many there will be."""
+"""Steps at cuts, one or all of them, and the weights that tell how many there will be."""
 
 from cutnets.formulas import atom_count, is_atom, two_formulas
 from cutnets.structures import Structure, first_leaf_of_cut, renumbered
@@ -51,3 +51,18 @@ def after_step(structure, k):
     if is_atom(structure.cuts[k]):
         return after_joining(structure, k)
     return after_split(structure, k)
+
+
+# The structure in which all cuts are stuck, and how many steps lead to it.
+def after_all_steps(structure, from_the_end):
+    done = 0
+    # A stuck cut stays stuck whatever is done at others: so those that were passed over are not looked at again.
+    stuck = 0
+    while stuck < len(structure.cuts):
+        k = len(structure.cuts) - 1 - stuck if from_the_end else stuck
+        if is_stuck(structure, k):
+            stuck += 1
+        else:
+            structure = after_step(structure, k)
+            done += 1
+    return (structure, done)

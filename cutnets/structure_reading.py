@@ -3,14 +3,13 @@
 from cutnets.formula_reading import read_sequent
 from cutnets.formulas import DUAL_KINDS, in_bounds
 from cutnets.refusals import NoText, OutOfBounds, TooManyLeaves, WrongLinks
-from cutnets.structures import Structure, all_leaves
+from cutnets.structures import MOST_LEAVES, Structure, all_leaves
 from cutnets.texts import BLANK, is_digit, parted, without_outer_blanks
 
 SEMICOLON = 59
 HYPHEN = 45
 ZERO = 48
 
-MOST_LEAVES = 120
 MOST_LEAF_DIGITS = 3
 
 

@@ -3,6 +3,8 @@
 from cutnets.formulas import atom_count, dual, formula_form, leaves_of
 from cutnets.texts import bytes_of, put_together
 
+MOST_LEAVES = 120
+
 
 class Structure:
     # partners tells for each leaf the leaf that it is linked with. A structure is never changed once it is made:
@@ -28,9 +30,12 @@ def all_leaves(conclusions, cuts):
     return leaves
 
 
+def conclusion_leaf_count(structure):
+    return sum([atom_count(formula) for formula in structure.conclusions])
+
+
 def first_leaf_of_cut(structure, k):
-    ahead = sum([atom_count(formula) for formula in structure.conclusions])
-    return ahead + 2 * sum([atom_count(cut) for cut in structure.cuts[:k]])
+    return conclusion_leaf_count(structure) + 2 * sum([atom_count(cut) for cut in structure.cuts[:k]])
 
 
 def renumbered(partners, leaves):

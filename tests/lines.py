@@ -2,7 +2,8 @@
 
 from cutnets.nets import answers
 
-NUMBERS = {"set": 0, "form": 1, "cuts": 2, "count": 3, "step": 4, "steps": 5}
+NUMBERS = {"set": 0, "form": 1, "cuts": 2, "count": 3, "step": 4, "steps": 5, "finish": 6, "normal": 7, "walk": 8,
+           "draw": 9, "join": 10, "bend": 11}
 NEW = "a, ~a ; a ; 0-3 1-2"
 
 
@@ -57,3 +58,24 @@ def own_links(atoms, start=0):
 
 def cut_text(formula, atoms):
     return f";{formula};{own_links(atoms)}"
+
+
+def pairs_text(pairs):
+    return " ".join(f"{low}-{high}" for low, high in sorted(pairs))
+
+
+def row_of_cuts(cuts, conclusions=2):
+    """A walk goes from conclusion 0 to conclusion 1 over all cuts; the other conclusions are linked two by two.
+
+    The leaves of cut k are conclusions + 2k and conclusions + 2k + 1.
+    """
+    first, last = conclusions, conclusions + 2 * cuts - 2
+    pairs = [(0, first + 1), (1, last)] + [(leaf, leaf + 3) for leaf in range(first, last, 2)]
+    pairs += [(leaf, leaf + 1) for leaf in range(2, conclusions, 2)]
+    return ", ".join(["a", "~a"] * (conclusions // 2)) + " ; " + ", ".join(["a"] * cuts) + " ; " + pairs_text(pairs)
+
+
+def known(*calls):
+    """All that can be asked without a change, behind these calls."""
+    asked = [("form",), ("cuts",), ("count",), ("normal",), ("draw",)] + [("walk", leaf) for leaf in range(121)]
+    return run(*calls, *asked)[len(calls):]

@@ -4,10 +4,19 @@ import sys
 import unittest
 
 from cutnets.nets import answers
-from lines import NEW, cut_text, line, run
+from lines import NEW, cut_text, line, row_of_cuts, run
 
 CALLS = (("form",), ("cuts",), ("count",), ("set", "a|b, ~a*~b ; a*b ; 0-6 1-7 2-4 3-5"), ("steps", [0, 1]),
-         ("step", 5), ("set", "no text"), ("steps", [-1]), ("steps", []), ("step", 0), ("form",), ("cuts",), ("count",))
+         ("step", 5), ("set", "no text"), ("steps", [-1]), ("steps", []), ("step", 0), ("form",), ("cuts",), ("count",),
+         ("walk", 0), ("walk", -1), ("normal",), ("draw",), ("join", 0, 0, "~a*~b, c, a|b, ~c ;; 0-2 1-3"),
+         ("finish", 3),
+         ("join", 0, 0, "~a*~b, c, a|b, ~c ;; 0-3 1-4 2-5"), ("join", 0, 1, "~a*~b, a, b ;; 0-2 1-3"), ("bend", 0, 0),
+         ("bend", 1, 9), ("draw",), ("bend", 0, 2), ("form",), ("draw",), ("normal",), ("finish", 1), ("finish", 0),
+         ("form",))
+
+
+# 40 atoms, nested 40 deep, with all that is of two formulas standing first.
+DEEP = "(" * 38 + "a*a" + ")|a)*a" * 19
 
 
 class Guarded(list):
@@ -32,6 +41,23 @@ class Interface(unittest.TestCase):
         self.assertEqual([1, 0], answers([0, 2, 59, 59]))
         self.assertEqual([1, -1], answers([0, 0]))
         self.assertEqual([20, 19] + [ord(letter) for letter in NEW], answers([1]))
+        self.assertEqual([2, 1, 0], answers([6, 0]))
+        self.assertEqual([2, 1, 0], answers([6, 1]))
+        self.assertEqual([1, -2], answers([6, 2]))
+        self.assertEqual([15, 14] + [ord(letter) for letter in "a, ~a ;  ; 0-1"], answers([7]))
+        self.assertEqual([2, 1, 1], answers([8, 0]))
+        self.assertEqual([2, 1, 0], answers([8, 2]))
+        self.assertEqual([1, -4], answers([8, 4]))
+        self.assertEqual([1, 1], answers([9]))
+        self.assertEqual([1, 2], answers([11, 0, 1]))
+        self.assertEqual([1, -8], answers([11, 1, 1]))
+
+    def test_i_and_j_stand_ahead_of_the_text(self):
+        text = [ord(letter) for letter in "b,~b,a,~a;;0-1 2-3"]
+        self.assertEqual([1, 2], answers([10, 1, 2, len(text)] + text))
+        self.assertEqual([1, -8], answers([10, 1, 3, len(text)] + text))
+        self.assertEqual([1, -4], answers([10, 2, 1, len(text)] + text))
+        self.assertEqual([1, -1, 1, 1], answers([10, 0, 0, 0, 3]))
 
     def test_one_behind_another(self):
         self.assertEqual([1, 1, 1, -1, 1, 1, 2, 1, 0, 1, 0, 1, 0], answers([3, 0, 1, 59, 3, 5, 1, 3, 2, 3]))
@@ -40,6 +66,11 @@ class Interface(unittest.TestCase):
         self.assertEqual([1, -1, 1, 1], answers([0, 5, 3, 3, 3, 3, 3, 3]))
         self.assertEqual([1, -2, 1, 1], answers([5, 4, -1, 3, 3, 3, 3]))
         self.assertEqual([1, -4, 1, 1], answers([4, 3, 3]))
+        self.assertEqual([1, -2, 1, 1], answers([6, 3, 3]))
+        self.assertEqual([1, -4, 1, 1], answers([8, 9, 3]))
+        self.assertEqual([1, -1, 1, 1], answers([10, 3, 3, 4, 3, 3, 3, 3, 3]))
+        self.assertEqual([1, -4, 1, 1], answers([10, 3, 3, 2, 59, 59, 3]))
+        self.assertEqual([1, -4, 1, 1], answers([11, 3, 3, 3]))
 
     def test_whole_numbers_alone_are_given_back(self):
         found = answers(line(*CALLS))
@@ -64,6 +95,7 @@ class Interface(unittest.TestCase):
     def test_nothing_is_kept_from_one_time_to_the_next(self):
         run(("set", "b, ~b;;0-1"))
         run(("step", 0))
+        run(("finish", 0), ("join", 0, 1, "a, ~a ;; 0-1"), ("bend", 0, 1))
         self.assertEqual([[1, 0, 1], [1]], run(("cuts",), ("count",)))
 
     def test_two_hundred_and_forty_calls(self):
@@ -75,6 +107,7 @@ class Interface(unittest.TestCase):
         self.assertEqual([[2]] * 4, run(*[("set", text)] * 4))
         self.assertEqual([[-1]] * 3, run(*[("set", [255] * 4000)] * 3))
         self.assertEqual([[1, 0]] + [[0, 0]] * 70, run(*[("steps", [10 ** 18] * 200)] * 71))
+        self.assertEqual([[2], [3], [4], [1]], run(*[("join", 1, 0, text)] * 3, ("draw",)))
 
     def test_it_needs_no_deep_recursion(self):
         depth = 0
@@ -85,8 +118,12 @@ class Interface(unittest.TestCase):
         before = sys.getrecursionlimit()
         calls = line(("set", "(" * 100 + "a*a" + ")" * 100 + ";;"),
                      ("set", cut_text("*".join(["a"] * 40), 40)), ("form",), ("steps", list(range(200))),
-                     ("set", "~" * 100 + "a, ~a;;0-1"), ("form",))
+                     ("set", "~" * 100 + "a, ~a;;0-1"), ("form",), ("draw",), ("set", cut_text(DEEP, 40)), ("form",),
+                     ("draw",), ("walk", 79), ("finish", 0), ("normal",), ("set", row_of_cuts(20, 20)),
+                     ("join", 0, 1, row_of_cuts(20, 20)), ("draw",), ("walk", 0), ("normal",), ("bend", 3, 0),
+                     ("finish", 1), ("form",))
         wanted = answers(calls)
+        self.assertEqual([80], run(("set", cut_text(DEEP, 40)))[0])
         sys.setrecursionlimit(depth + 30)
         try:
             self.assertEqual(wanted, answers(calls))
